@@ -1,0 +1,162 @@
+"""A second way to the first item of a text that cannot stand: written from the document, with
+patterns and fractions. Each function returns the index, or None for the text of a value."""
+
+import re
+from fractions import Fraction
+from math import gcd
+
+INTEGER = re.compile(r"(0|-?[1-9][0-9]{0,59})\Z", re.ASCII)
+BROKEN = re.compile(r"(-?[1-9][0-9]{0,59})/([1-9][0-9]{0,59})\Z", re.ASCII)
+
+
+class Stop(Exception):
+    pass
+
+
+class Row:
+    def __init__(self, text):
+        self.rows = text.split(" ")
+        self.at = 0
+
+    def next(self):
+        if self.at == len(self.rows):
+            raise Stop(self.at)
+        self.at += 1
+        return self.rows[self.at - 1]
+
+    def want(self, so):
+        if not so:
+            raise Stop(self.at - 1)
+
+    def number(self):
+        item = self.next()
+        whole, broken = INTEGER.match(item), BROKEN.match(item)
+        self.want(whole or broken)
+        if whole:
+            return Fraction(int(item))
+        above, below = int(broken.group(1)), int(broken.group(2))
+        self.want(below > 1 and gcd(above, below) == 1)
+        return Fraction(above, below)
+
+    def index(self, many):
+        item = self.next()
+        self.want(INTEGER.match(item) and 0 <= int(item) < many)
+        return int(item)
+
+    def word(self, *words):
+        item = self.next()
+        self.want(item in words)
+        return item
+
+    def piece(self):
+        begin, end = self.number(), self.number()
+        self.want(begin < end)
+        left = (self.number(), self.number())
+        right = [self.number()]
+        self.want(right[0] >= left[0])
+        right.append(self.number())
+        self.want(right[1] >= left[1])
+        return (begin, end, left, tuple(right))
+
+    def whole(self):
+        if self.at < len(self.rows):
+            raise Stop(self.at)
+
+
+def first_wrong(text, reading):
+    row = Row(text)
+    try:
+        reading(row)
+        row.whole()
+    except Stop as stop:
+        return stop.args[0]
+    return None
+
+
+def piece_item(text):
+    return first_wrong(text, Row.piece)
+
+
+def front_item(text):
+    return None if text == "-" else first_wrong(text, reading_front)
+
+
+def reading_front(row):
+    if row.rows[0] == "-":
+        raise Stop(1)
+    corners = []
+    last = None
+    while True:
+        if corners and row.at == len(row.rows):
+            return
+        if corners and row.rows[row.at] == "/":
+            row.next()
+            corners = []
+        place = row.number()
+        row.want(last is None or place > last)
+        last = place
+        corners.append((place, row.number()))
+        if len(corners) > 2:
+            (x, t), (y, u), (z, v) = corners[-3:]
+            row.want((u - t) / (y - x) != (v - u) / (z - y))
+
+
+def world_item(text):
+    return first_wrong(text, reading_world)
+
+
+def reading_world(row):
+    row.word("piece")
+    pieces, links, word = [], [], "piece"
+    while word == "piece":
+        pieces.append(row.piece())
+        row.word("/")
+        word = row.word("piece", "link", "start")
+    while word == "link":
+        one, other = row.index(len(pieces)), row.index(len(pieces))
+        row.want(one != other)
+        window = row.piece() if row.word("/", "piece") == "piece" else None
+        if window is not None:
+            row.word("/")
+        links.append((one, other, window))
+        word = row.word("link", "start")
+    moment, place, number = row.number(), row.number(), row.index(len(pieces))
+    row.word("/")
+    row.word("goals")
+    before = -1
+    while row.at < len(row.rows):
+        goal = row.index(len(pieces))
+        row.want(goal > before)
+        before = goal
+    begin, end, left, right = pieces[number]
+    way = (moment - begin) / (end - begin)
+    fits = begin <= moment <= end and (
+        left[0] + way * (left[1] - left[0]) <= place <= right[0] + way * (right[1] - right[0]))
+    if not fits or len(pieces) > 60 or len(links) > 600 or len(set(links)) < len(links):
+        raise Stop(len(row.rows) - 1)
+
+
+MUCH = "1" + "0" * 60
+PUT_IN = ("", "-", "/", "x", "piece", "link", "start", "goals", "0", "1", "2", "-1", "7", "99", "1/2", "-7/2", "4/2", "3/1",
+          "+1", "01", "-0", "1/0", "None", "PIECE", "9" * 60, MUCH, "-" + MUCH, "1/" + MUCH, "\u0661", "1\n", "\t", "1.0")
+
+
+def bent(text):
+    """The text with each item exchanged for others, left out, doubled, exchanged with the next, and so on."""
+    rows = text.split(" ")
+    for at in range(len(rows)):
+        for item in PUT_IN:
+            yield " ".join(rows[:at] + [item] + rows[at + 1:])
+            yield " ".join(rows[:at] + [item] + rows[at:])
+        yield " ".join(rows[:at] + rows[at + 1:])
+        yield " ".join(rows[:at] + [rows[at], rows[at]] + rows[at + 1:])
+        yield " ".join(rows[:at] + rows[at:at + 2][::-1] + rows[at + 2:])
+        yield " ".join(rows[:at])
+    for item in PUT_IN:
+        yield text + " " + item
+        yield text + " / " + item
+    yield text + " " + text
+    yield text + " / " + text
+    yield text + "  "
+    yield text.replace(" ", "\t")
+    yield text.replace(" ", "\n")
