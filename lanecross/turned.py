@@ -1,7 +1,7 @@
 """Worlds that are turned: mirrored, moved, stretched, backward, with less or more."""
 
-from lanecross.checks import is_lot, is_number
-from lanecross.errors import BadNumber, BadPiece, BadWorld, Misfit
+from lanecross.checks import is_number
+from lanecross.errors import BadNumber, BadPiece, BadWorld
 from lanecross.numbers import is_less, minus, plus, times
 from lanecross.pieces import Piece
 from lanecross.worlds import World, check_number_of_piece, check_station, check_world
@@ -72,13 +72,9 @@ def backward_window(window):
 def backward(world, start, goals):
     """The world turned backward, from a station of the world as it stands, to other goals."""
     check_world(world)
-    many = len(world.pieces)
-    check_station(start, many, "start")
-    if not is_lot(goals, many):
-        raise BadWorld("goals")
+    check_station(start, len(world.pieces), "start")
     moment, place, piece = start
-    if not world.pieces[piece].has(moment, place):
-        raise Misfit("start")
+    # World itself refuses wrong goals, and then a start that does not fit: backward it fits as it did.
     pieces = [each.backward() for each in world.pieces]
     links = [(other, one, backward_window(window)) for one, other, window in world.links]
     return World(pieces, links, (minus(0, moment), place, piece), goals)
