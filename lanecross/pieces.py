@@ -34,7 +34,7 @@ class Piece:
         return isinstance(other, Piece) and piece_numbers(self) == piece_numbers(other)
 
     def __str__(self):
-        return piece_text(self)
+        return " ".join(piece_items(self))
 
     @staticmethod
     def read(text):
@@ -69,9 +69,14 @@ def piece_numbers(piece):
     return (piece.begin, piece.end, piece.left, piece.right)
 
 
+def piece_items(piece):
+    """The items of the text of a piece."""
+    return [numeral(number) for number in [piece.begin, piece.end, *piece.left, *piece.right]]
+
+
 def piece_text(piece):
     """The text of a piece."""
-    return " ".join([numeral(number) for number in [piece.begin, piece.end, *piece.left, *piece.right]])
+    return " ".join(piece_items(piece))
 
 
 def piece_from(reader):

@@ -127,6 +127,29 @@ class LanguageTest(unittest.TestCase):
                 if isinstance(node, ast.Attribute) and isinstance(node.ctx, ast.Load):
                     self.assertIn(node.attr, METHODS | own | stored | DUNDER)
 
+    def test_texts_and_lengths(self):
+        """L28: what stands behind each return of these methods, and a return stands last."""
+        kinds = {"__str__": self.is_text, "__repr__": self.is_text, "__len__": self.is_length}
+        for name, text in files():
+            for node in ast.walk(ast.parse(text)):
+                if isinstance(node, ast.FunctionDef) and node.name in kinds:
+                    self.assertIsInstance(node.body[-1], ast.Return, (name, node.lineno))
+                    for part in ast.walk(node):
+                        if isinstance(part, ast.Return):
+                            self.assertTrue(kinds[node.name](part.value), (name, part.lineno))
+
+    def is_text(self, node):
+        if isinstance(node, ast.Call) and isinstance(node.func, ast.Name):
+            return node.func.id in ("str", "repr")
+        if isinstance(node, ast.Call) and isinstance(node.func, ast.Attribute):
+            return node.func.attr == "join" and isinstance(node.func.value, ast.Constant)
+        return isinstance(node, ast.JoinedStr) or isinstance(node, ast.Constant) and isinstance(node.value, str)
+
+    def is_length(self, node):
+        if isinstance(node, ast.Call):
+            return isinstance(node.func, ast.Name) and node.func.id == "len"
+        return isinstance(node, ast.Constant) and isinstance(node.value, int)
+
     def test_strings(self):
         for name, text in files():
             for node in ast.walk(ast.parse(text)):
