@@ -2,7 +2,7 @@
 
 from lanecross.checks import is_number
 from lanecross.errors import BadFront, BadNumber, BadPiece, Misfit
-from lanecross.lines import is_nowhere_above, is_straight, moment_at
+from lanecross.lines import are_covered, is_straight, lowest_corner, row_moment
 from lanecross.numerals import numeral
 from lanecross.pieces import Piece, first_line, has_spot
 from lanecross.reckon import is_smaller, raw, told
@@ -16,12 +16,14 @@ def has_corners(piece, lines):
     return all([has_spot(piece, moment, place) for line in lines for place, moment in line])
 
 
-def is_front_of(piece, value):
-    """Whether any value is a front of a piece: a row of its spots that spreads to itself."""
-    if not is_row(value):
-        return False
-    lines = raw_row(value)
+def are_front_lines(piece, lines):
+    """Whether raw lines are a front of a piece: they are spots of it that spread to themselves."""
     return has_corners(piece, lines) and spread_lines(lines, Ground(piece)) == lines
+
+
+def is_front_of(piece, value):
+    """Whether any value is a front of a piece."""
+    return is_row(value) and are_front_lines(piece, raw_row(value))
 
 
 def check_piece(value, part):
@@ -100,15 +102,6 @@ def through(front, one, other, window):
     return told_row(through_lines(lines, Ground(one), Ground(other), Ground(window)))
 
 
-def row_moment(lines, place):
-    """The raw moment that raw lines tell for a raw place; None if they do not have it."""
-    for line in lines:
-        found = moment_at(line, place)
-        if found is not None:
-            return found
-    return None
-
-
 def front_at(front, place):
     """The moment that a row of stretches tells for a place; None if it does not have it."""
     found = row_moment(row_lines(front, "front"), raw_number(place, "place"))
@@ -119,13 +112,9 @@ def front_at(front, place):
 
 def lowest(front):
     """The corner with the least moment, of these that with the least place; None without one."""
-    corners = [corner for line in row_lines(front, "front") for corner in line]
-    if len(corners) == 0:
+    found = lowest_corner(row_lines(front, "front"))
+    if found is None:
         return None
-    found = corners[0]
-    for corner in corners:
-        if is_smaller(corner[1], found[1]):
-            found = corner
     return (told(found[0]), told(found[1]))
 
 
@@ -137,19 +126,10 @@ def is_behind(front, moment, place):
     return found is not None and not is_smaller(spot[0], found)
 
 
-def is_covered(line, lines):
-    """Whether one of some lines has all places of a line, at no later moments."""
-    for cover in lines:
-        if is_smaller(line[0][0], cover[0][0]) or is_smaller(cover[-1][0], line[-1][0]):
-            continue
-        return is_nowhere_above(cover, line)
-    return False
-
-
 def covers(one, other):
     """Whether all spots behind other are behind one."""
     lines = row_lines(one, "one")
-    return all([is_covered(line, lines) for line in row_lines(other, "other")])
+    return are_covered(row_lines(other, "other"), lines)
 
 
 def stretch_text(stretch):

@@ -129,3 +129,41 @@ def capped_lines(line, cap):
             parts.append([(place, moment)])
             is_open = True
     return parts
+
+
+def is_covered(line, lines):
+    """Whether one of some lines has all places of a line, at no later moments."""
+    for cover in lines:
+        if is_smaller(line[0][0], cover[0][0]) or is_smaller(cover[-1][0], line[-1][0]):
+            continue
+        return is_nowhere_above(cover, line)
+    return False
+
+
+def are_covered(lines, covers):
+    """Whether all spots behind some lines are behind other ones."""
+    return all([is_covered(line, covers) for line in lines])
+
+
+def row_moment(lines, place):
+    """The moment that lines tell for a place; None if they do not have it."""
+    for line in lines:
+        found = moment_at(line, place)
+        if found is not None:
+            return found
+    return None
+
+
+def lowest_corner(lines):
+    """The point of lines with the least moment, of these that with the least place; None without one."""
+    found = None
+    for line in lines:
+        for point in line:
+            if found is None or is_smaller(point[1], found[1]):
+                found = point
+    return found
+
+
+def opposite_lines(lines):
+    """Lines with the sign of each moment exchanged."""
+    return [[(place, negative(moment)) for place, moment in line] for line in lines]

@@ -1,6 +1,6 @@
 """Worlds: pieces of ground, links between them, a start and goals."""
 
-from lanecross.checks import is_lot, is_number, is_row_of, is_within
+from lanecross.checks import is_lot, is_row_of, is_spot, is_within
 from lanecross.errors import BadSpot, BadText, BadWorld, Misfit, NoPiece, TooMany, Twice
 from lanecross.numbers import greatest
 from lanecross.numerals import integer_text, numeral
@@ -80,11 +80,14 @@ def check_links(links, many):
         raise BadWorld("links")
 
 
+def is_station(value, many):
+    """Whether this is a triple of two numbers and the number of one of so many pieces."""
+    return is_row_of(value, 3) and is_spot(value[:2]) and is_within(value[2], 0, many - 1)
+
+
 def check_station(value, many, part):
     """Raises the error of what is no triple of two numbers and the number of one of so many pieces."""
-    if not is_row_of(value, 3):
-        raise BadSpot(part)
-    if not (is_number(value[0]) and is_number(value[1]) and is_within(value[2], 0, many - 1)):
+    if not is_station(value, many):
         raise BadSpot(part)
 
 

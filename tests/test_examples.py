@@ -4,37 +4,37 @@ import importlib
 import os
 import unittest
 
-MODULES = ["errors", "checks", "papers", "numbers", "pieces", "fronts", "worlds", "turned"]
 HERE = os.path.dirname(os.path.abspath(__file__))
 
 
-def all_names():
-    names = {}
-    for module in MODULES:
-        names.update(vars(importlib.import_module("lanecross." + module)))
-    return names
-
-
 def read_examples():
-    """Triples (number of the row, what is told, what is expected or None)."""
+    """Lists (number of the row, module, what is told, what is expected or None)."""
     with open(os.path.join(HERE, "examples.txt"), encoding="ascii") as stream:
         rows = stream.read().split("\n")
-    found = []
+    found, module = [], None
     for number, row in enumerate(rows, start=1):
-        if row.startswith(">>> "):
-            found.append([number, row[4:], None])
-        elif row and not row.startswith("#"):
-            found[-1][2] = row
+        if row.startswith("# lanecross/"):
+            module = row[len("# "):-len(".py")].replace("/", ".")
+        elif row.startswith(">>> "):
+            found.append([number, module, row[4:], None])
+        elif row:
+            found[-1][3] = row
     return found
 
 
 class ExamplesTest(unittest.TestCase):
     def test_there_are_all(self):
-        self.assertEqual(len(read_examples()), 47)
+        examples = read_examples()
+        self.assertEqual(len({module for _, module, _, _ in examples}), 11)
+        self.assertEqual(len(examples), 84)
 
     def test_examples(self):
-        names = all_names()
-        for number, told, expected in read_examples():
+        # Names are used as earlier examples made them last, but each module tells its own anew.
+        names, last = vars(importlib.import_module("lanecross.errors")).copy(), None
+        for number, module, told, expected in read_examples():
+            if module != last:
+                names.update(vars(importlib.import_module(module)))
+                last = module
             with self.subTest(row=number, told=told):
                 if expected is None:
                     exec(told, names)

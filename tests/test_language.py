@@ -79,7 +79,7 @@ class LanguageTest(unittest.TestCase):
                 if isinstance(node, ast.Compare) and isinstance(node.ops[0], (ast.Is, ast.IsNot)):
                     self.assertIsInstance(node.comparators[0], ast.Constant)
                 if isinstance(node, ast.Call) and isinstance(node.func, ast.Name) and node.func.id in ("any", "all", "sum", "min", "max", "sorted"):
-                    self.assertIsInstance(node.args[0], ast.ListComp)
+                    self.assertNotIsInstance(node.args[0], (ast.GeneratorExp, ast.Set, ast.SetComp))
                 if isinstance(node, ast.Raise) and node.exc is not None:
                     self.assertIsInstance(node.exc, ast.Call)
                     self.assertTrue(node.exc.func.id[0].isupper())

@@ -8,6 +8,10 @@ from fractions import Fraction
 from lanecross.fronts import (covers, front_at, front_read, front_text, is_behind, is_front, least_of, lowest, spread, through)
 from lanecross.numbers import distance, greatest, least, minus, number_text, over, plus, times
 from lanecross.pieces import Piece
+from lanecross.plays import hops_of, is_play, joined, parted, plain, straightened, where_at, wins_at
+from lanecross.safe import alive_table, escape, is_alive, is_safe, last_call, last_stand, lasting, safe_table
+from lanecross.soonest import run_to, soonest
+from lanecross.tables import fewest, soonest_by, table
 from lanecross.turned import backward, mirrored, moved, stretched, with_links, with_piece, without
 from lanecross.worlds import World, links_from
 from reference import frac, number
@@ -92,6 +96,59 @@ class TimesTest(unittest.TestCase):
                      lambda: backward(world, (0, 0, 0), [1]), lambda: with_links(without(world, 3), [(3, 4, None)]), lambda: links_from(world, 3)):
             self.check_short(told)
         with_piece(World(pieces[:59], [], (0, 0, 0), []), pieces[0], [(59, 0, None)])
+
+    def wide_world(self, source, many, links):
+        """Pieces that lie across one another for a long time, with windows at half of the links."""
+        def row(low, high):
+            return number(Fraction(source.randint(low * 997, high * 997), source.randint(500, 997)))
+        pieces = [Piece(row(0, 20), row(300, 600), (row(0, 100), row(0, 200)), (row(200, 300), row(400, 500))) for _ in range(many)]
+        ways = []
+        for at in range(links):
+            one = at % many
+            other = (one + 1 + at // many % (many - 1)) % many
+            ways.append((one, other, Piece(at, at + 50, (row(0, 90), row(0, 90)), (row(200, 300), row(200, 300))) if at >= many * (many - 1) or at % 2 else None))
+        return World(pieces, ways, (pieces[0].begin, pieces[0].left[0], 0), [many - 1])
+
+    def slow_chain(self, source, many):
+        """Each piece leads to the next one only, and what comes bends at edges again and again."""
+        pieces = [Piece(one_of(source, 0, 3), one_of(source, 900, 950), (one_of(source, 9 * at, 9 * at + 1), one_of(source, 9 * at, 9 * at + 1)),
+                        (one_of(source, 9 * at + 10, 9 * at + 12), one_of(source, 9 * at + 10, 9 * at + 13))) for at in range(many)]
+        return World(pieces, [(at, at + 1, None) for at in range(many - 1)], (10, 5, 0), [many - 1])
+
+    def check_world(self, world):
+        told = self.check_short(lambda: table(world))
+        self.assertEqual(self.check_short(lambda: table(world, 10 ** 60)), told)
+        for answer in (lambda: fewest(world), lambda: soonest_by(world), lambda: safe_table(world), lambda: alive_table(world)):
+            self.check_short(answer)
+        self.check_short(lambda: soonest(world))
+        for at, front in enumerate(told):
+            if front and at % 7 == 0:
+                station = (front[-1][-1][1], front[-1][-1][0], at)
+                self.assertEqual(self.check_short(lambda: run_to(world, station))[-1], station)
+                for answer in (is_safe, is_alive, escape, lasting):
+                    self.check_short(lambda: answer(world, station))
+                self.check_short(lambda: (last_call(world, at, station[1]), last_stand(world, at, station[1])))
+
+    def test_tables(self):
+        source = random.Random(84)
+        for many, links in ((2, 600), (4, 500), (10, 200), (20, 100), (44, 45), (60, 33)):
+            self.check_world(self.wide_world(source, many, links))
+        for many in (16, 44):
+            world = self.slow_chain(source, many)
+            self.assertEqual(self.check_short(lambda: fewest(world)), many - 1)
+            self.check_world(world)
+
+    def test_plays(self):
+        source = random.Random(85)
+        world = self.wide_world(source, 4, 500)
+        same = World([world.pieces[0]] * 4, world.links, (50, 150, 0), [3])
+        play = [(number(Fraction(50 * 997 + at, 997)), 150, at // 20) for at in range(60)]
+        for one in (play, play[:20]):
+            self.assertTrue(self.check_short(lambda: is_play(same, one)))
+            for answer in (plain, straightened, hops_of, wins_at):
+                self.check_short(lambda: answer(same, one))
+            self.check_short(lambda: where_at(same, one, one[10][0]))
+            self.assertEqual(self.check_short(lambda: joined(same, *parted(same, one, one[11][0]))), plain(same, one))
 
 
 if __name__ == "__main__":
