@@ -15,6 +15,11 @@ def are_same(one, other):
     return one.word == other.word and one.parts == other.parts
 
 
+def is_just(value, name):
+    """Whether a value was made by calling the class of this name, and no class below it."""
+    return value.__class__.__name__ == name
+
+
 class Paper:
     """A paper, which is true."""
 

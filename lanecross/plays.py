@@ -5,13 +5,8 @@ from lanecross.errors import BadNumber, BadPlay, Misfit
 from lanecross.lines import between, is_straight
 from lanecross.papers import fixed
 from lanecross.pieces import has_spot
-from lanecross.reckon import is_smaller, negative, raw, smaller, subtract, told
-from lanecross.worlds import check_world, is_station
-
-
-def raw_spot(station):
-    """The raw moment and place of a station."""
-    return (raw(station[0]), raw(station[1]))
+from lanecross.reckon import is_smaller, negative, raw, subtract, told
+from lanecross.worlds import check_world, is_station, raw_spot
 
 
 def is_slow(one, other):

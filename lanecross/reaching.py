@@ -6,9 +6,10 @@ of raw lines: what can be reached by so many links.
 
 from lanecross.lines import are_covered, lowest_corner, moment_at, row_moment
 from lanecross.pieces import edges_at
-from lanecross.reckon import add, greater, is_smaller, raw, smaller, subtract
+from lanecross.reckon import add, greater, is_smaller, negative, smaller, subtract
 from lanecross.spreading import Ground, least_lines, let_through, spread_lines
 from lanecross.turned import backward_window
+from lanecross.worlds import raw_spot
 
 
 class Net:
@@ -74,9 +75,10 @@ def layers_from(net, first, most):
 
 def start_layer(world, net):
     """What is reached of each piece by no link: in the start's piece what its spot spreads to."""
-    moment, place, piece = world.start
+    moment, place = raw_spot(world.start)
+    piece = world.start[2]
     found = [[] for _ in net.grounds]
-    found[piece] = spread_lines([[(raw(place), raw(moment))]], net.grounds[piece])
+    found[piece] = spread_lines([[(place, moment)]], net.grounds[piece])
     return found
 
 
@@ -120,6 +122,12 @@ def is_reached(lines, spot):
     """Whether a raw spot (moment, place) is behind lines."""
     found = row_moment(lines, spot[1])
     return found is not None and not is_smaller(spot[0], found)
+
+
+def backward_spot(station):
+    """The raw spot of a station, with the other sign at its moment."""
+    moment, place = raw_spot(station)
+    return (negative(moment), place)
 
 
 def gap(one, other):

@@ -5,8 +5,7 @@ from lanecross.errors import BadNumber
 from lanecross.lines import opposite_lines, row_moment
 from lanecross.papers import Denial, Paper, fixed
 from lanecross.pieces import edges_at
-from lanecross.plays import raw_spot
-from lanecross.reaching import backward_net, end_layer, goal_layer, is_reached, layers_from, steps_to
+from lanecross.reaching import backward_net, backward_spot, end_layer, goal_layer, is_reached, layers_from, steps_to
 from lanecross.reckon import greater, negative, raw, smaller, told
 from lanecross.soonest import check_spot_of, told_station
 from lanecross.tables import told_table
@@ -70,12 +69,6 @@ def alive_table(world):
     """The late table for which just the spots of alive stations are in time."""
     check_world(world)
     return late_table(alive_layers(world, backward_net(world)))
-
-
-def backward_spot(station):
-    """The raw spot of a station, with the other sign at its moment."""
-    moment, place = raw_spot(station)
-    return (negative(moment), place)
 
 
 def is_safe(world, station):

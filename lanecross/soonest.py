@@ -2,11 +2,11 @@
 
 from lanecross.errors import Misfit
 from lanecross.papers import Denial, Paper, fixed
-from lanecross.plays import has_station, raw_spot
+from lanecross.plays import has_station
 from lanecross.reaching import forward_net, soonest_corner, start_layers, steps_to
 from lanecross.reckon import told
 from lanecross.tables import told_table
-from lanecross.worlds import check_station, check_world
+from lanecross.worlds import check_station, check_world, raw_spot
 
 
 class Soonest(Paper):

@@ -28,10 +28,9 @@ def link_from(reader, many):
     return (one, other, window)
 
 
-def goals_from(reader, many):
-    """Takes all goals, which ascend, up to the end of the text."""
+def goals_from(reader, bound, many):
+    """Takes all goals from bound to below many, which ascend, up to the end of the text."""
     goals = []
-    bound = 0
     while not reader.is_done():
         goals.append(reader.integer(bound, many))
         bound = goals[-1] + 1
@@ -48,4 +47,4 @@ def parts_from(reader):
     start = (reader.number(), reader.number(), reader.integer(0, len(pieces)))
     reader.one_of(("/",))
     reader.one_of(("goals",))
-    return pieces, links, start, goals_from(reader, len(pieces))
+    return pieces, links, start, goals_from(reader, 0, len(pieces))

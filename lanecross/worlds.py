@@ -6,6 +6,7 @@ from lanecross.numbers import greatest
 from lanecross.numerals import integer_text, numeral
 from lanecross.papers import fixed
 from lanecross.pieces import Piece, piece_numbers, piece_text
+from lanecross.reckon import raw
 from lanecross.texts import Reader
 from lanecross.world_texts import parts_from
 
@@ -83,6 +84,11 @@ def check_links(links, many):
 def is_station(value, many):
     """Whether this is a triple of two numbers and the number of one of so many pieces."""
     return is_row_of(value, 3) and is_spot(value[:2]) and is_within(value[2], 0, many - 1)
+
+
+def raw_spot(station):
+    """The raw moment and place of a station."""
+    return (raw(station[0]), raw(station[1]))
 
 
 def check_station(value, many, part):

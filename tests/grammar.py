@@ -136,8 +136,80 @@ def reading_world(row):
         raise Stop(len(row.rows) - 1)
 
 
+def level_item(text):
+    return first_wrong(text, reading_level)
+
+
+def reading_level(row):
+    row.word("level")
+    end = row.number()
+    row.want(end > 0)
+    row.word("/")
+    kind, lanes, bodies = row.word("road", "river"), [], 0
+    while kind in ("road", "river"):
+        wide = row.number()
+        row.want(wide > 0)
+        row.word("/")
+        lanes.append((kind, wide, []))
+        while True:
+            words = (["body"] if bodies < 24 else []) + (["road", "river"] if len(lanes) < 8 else []) + ["lift", "key", "start"]
+            kind = row.word(*words)
+            if kind != "body":
+                break
+            bodies += 1
+            piece = row.piece()
+            lock = row.index(2) if row.word("/", "lock") == "lock" else None
+            if lock is not None:
+                row.word("/")
+            lanes[-1][2].append((piece, lock))
+    word, lifts, keys = kind, [], 0
+    while word == "lift":
+        one, other = row.index(len(lanes)), row.index(len(lanes))
+        row.want(one != other)
+        lifts.append((one, other, row.piece()))
+        row.word("/")
+        word = row.word(*(["lift"] if len(lifts) < 12 else []), "key", "start")
+    while word == "key":
+        row.index(len(lanes))
+        row.piece()
+        row.word("/")
+        keys += 1
+        word = row.word(*(["key"] if keys < 2 else []), "start")
+    lane, place = row.index(len(lanes)), row.number()
+    row.word("/")
+    row.word("goals")
+    before = -1
+    while before == -1 or row.at < len(row.rows):
+        goal = row.index(len(lanes))
+        row.want(goal > before)
+        before = goal
+    locks = [lock for _, _, rows in lanes for _, lock in rows if lock is not None]
+    if len(set(lifts)) < len(lifts) or any(lock >= keys for lock in locks) or not is_free_at_first(lanes[lane], end, place):
+        raise Stop(len(row.rows) - 1)
+
+
+def is_free_at_first(lane, end, place):
+    """Whether a place is free at moment 0: just behind it the bodies leave or make room that begins there."""
+    kind, wide, bodies = lane
+    here = []
+    for (begin, last, left, right), _ in bodies:
+        if begin <= 0 < last:
+            paces = [(edge[1] - edge[0]) / (last - begin) for edge in (left, right)]
+            here.append([(edge[0] - pace * begin, pace) for edge, pace in zip((left, right), paces)])
+    zero, far = (Fraction(0), Fraction(0)), (wide, Fraction(0))
+    # Places just behind moment 0 are pairs (place, pace), which compare as they will lie.
+    if kind == "river":
+        return any(low[0] <= place <= high[0] and low <= far and high >= zero and 0 <= place <= wide for low, high in here)
+    at = zero
+    for low, high in sorted(pair for pair in here if pair[0] < pair[1]):
+        if low > at and at < far and at[0] <= place <= min(low, far)[0]:
+            return True
+        at = max(at, high)
+    return at < far and at[0] <= place <= wide
+
+
 MUCH = "1" + "0" * 60
-PUT_IN = ("", "-", "/", "x", "piece", "link", "start", "goals", "0", "1", "2", "-1", "7", "99", "1/2", "-7/2", "4/2", "3/1",
+PUT_IN = ("", "-", "/", "x", "piece", "link", "start", "goals", "level", "road", "river", "body", "lock", "lift", "key", "0", "1", "2", "-1", "7", "99", "1/2", "-7/2", "4/2", "3/1",
           "+1", "01", "-0", "1/0", "None", "PIECE", "9" * 60, MUCH, "-" + MUCH, "1/" + MUCH, "\u0661", "1\n", "\t", "1.0")
 
 

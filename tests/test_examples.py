@@ -25,8 +25,8 @@ def read_examples():
 class ExamplesTest(unittest.TestCase):
     def test_there_are_all(self):
         examples = read_examples()
-        self.assertEqual(len({module for _, module, _, _ in examples}), 11)
-        self.assertEqual(len(examples), 84)
+        self.assertEqual(len({module for _, module, _, _ in examples}), 15)
+        self.assertEqual(len(examples), 130)
 
     def test_examples(self):
         # Names are used as earlier examples made them last, but each module tells its own anew.

@@ -1,10 +1,11 @@
 import random
 import unittest
 
-from grammar import MUCH, bent, front_item, piece_item, world_item
+from grammar import MUCH, bent, front_item, level_item, piece_item, world_item
 from helper import ODDITIES, LaneCase
 from lanecross.errors import BadFront
 from lanecross.fronts import front_read, front_text, full_front, spread
+from lanecross.levels import Level
 from lanecross.pieces import Piece
 from lanecross.worlds import World
 from reference import random_piece, random_row
@@ -16,6 +17,13 @@ WORLDS = (
     "piece 0 4 0 0 3 3 / start 0 0 0 / goals",
     "piece 0 4 0 0 3 3 / start 0 0 0 / goals 0",
     "piece -1/2 4 0 0 3 3 / piece 1 5 2 4 4 6 / piece 1 5 2 4 4 6 / link 0 2 / link 0 2 piece 1 2 0 0 1 1 / start 3/2 3/2 0 / goals 0 2")
+
+LEVELS = (
+    "level 6 / road 4 / road 4 / body 1 4 0 3 2 5 / start 0 1 / goals 1",
+    "level 5 / road 4 / river 5 / body 0 4 0 2 1 3 / body 2 6 2 2 3 3 lock 0 / lift 0 1 0 1 0 0 4 4 / key 0 0 5 3 3 4 4 / start 1 1/2 / goals 0",
+    "level 7/2 / river 1/3 / body -1 1/2 0 0 1 1 / start 0 0 / goals 0",
+    "level 3 / road 2 / body 0 1 0 0 1 1 lock 1 / road 1 / lift 0 1 0 1 0 0 1 1 / lift 0 1 0 2 0 0 1 1 / key 0 0 1 0 0 1 1 / key 1 0 1 0 0 1 1 / "
+    "start 0 1 / goals 0 1")
 
 
 class TextsTest(LaneCase):
@@ -44,6 +52,41 @@ class TextsTest(LaneCase):
         for text in WORLDS:
             self.check_bent(text, World.read, world_item)
             self.assertTrue(World.read(text=text) == World.read(text))
+
+    def test_levels(self):
+        for text in LEVELS:
+            self.check_bent(text, Level.read, level_item)
+            self.assertTrue(Level.read(text=text) == Level.read(text))
+
+    def test_items_of_levels(self):
+        road, body, lift, key = "road 4 / ", "body 8 9 0 0 1 1 / ", "lift 0 1 0 {} 0 0 1 1 / ", "key 0 0 1 0 0 1 1 / "
+        end = "start 0 1 / goals 0"
+        for many in (1, 2, 7, 8, 9):
+            self.check_level_item("level 6 / " + road * many + end, 3 + 3 * 8 if many > 8 else None)
+        for many in (1, 23, 24, 25, 26):
+            self.check_level_item("level 6 / " + road + body * many + end, 3 + 3 + 8 * 24 if many > 24 else None)
+            self.check_level_item("level 6 / " + road + body * (many // 2) + road + body * (many - many // 2) + end, 3 + 6 + 8 * 24 if many > 24 else None)
+        for many in (1, 11, 12, 13):
+            self.check_level_item("level 6 / " + road * 2 + "".join(lift.format(at + 1) for at in range(many)) + end, 9 + 10 * 12 if many > 12 else None)
+        for many in (1, 2, 3):
+            self.check_level_item("level 6 / " + road + key * many + end, 6 + 9 * 2 if many > 2 else None)
+        for text, item in (("level 6 / " + road + end[:-2], 11), ("level 6 / " + road + "start 0 1 / goals 0 0", 12), ("level 0 / " + road + end, 1),
+                           ("level -1/2 / " + road + end, 1), ("level 6 / road 0 / " + end, 4), ("level 6 / " + end, 3), ("level 6 / " + road + lift.format(1) + end, 8),
+                           ("level 6 / " + road * 2 + lift.format(1) * 2 + end, 34), ("level 6 / " + road + body[:-2] + "lock 2 / " + end, 14),
+                           ("level 6 / " + road + body[:-2] + "lock 0 / " + end, 21), ("level 6 / " + road + body[:-2] + "lock 0 / " + key + end, None),
+                           ("level 6 / " + road + body[:-2] + "lock 1 / " + key + end, 30), ("level 6 / " + road + "body 0 1 0 0 2 2 / start 0 1 / goals 0", 19),
+                           ("level 6 / " + road * 2 + lift.format(1).replace("0 1", "1 1", 1) + end, 11), ("level 6 / " + road + "key 1 0 1 0 0 1 1 / " + end, 7),
+                           ("level 6 / " + road + "start 0 9 / goals 0", 11), ("level 6 / " + road + "start 1 1 / goals 0", 7), ("level", 1), ("", 0)):
+            self.check_level_item(text, item)
+        for value in (None, 7, b"level", ["level"], Level):
+            self.check_text(0, Level.read, value)
+
+    def check_level_item(self, text, item):
+        self.assertEqual(level_item(text), item, text)
+        if item is None:
+            self.assertEqual(str(Level.read(text)), text)
+        else:
+            self.check_text(item, Level.read, text)
 
     def test_items(self):
         for text, item in (("", 0), (" ", 0), ("0", 1), ("0 1 0 0 1", 5), ("0 1 0 0 1 1 ", 6), ("0 1 0 0 1 1 1", 6), ("1 1 0 0 1 1", 1),

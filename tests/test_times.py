@@ -5,7 +5,12 @@ import time
 import unittest
 from fractions import Fraction
 
+from lanecross.check_tables import is_closed, is_kept, shows_escape, shows_lasting, shows_run, shows_soonest
+from lanecross.compiled import piece_at, whence, world_of
+from lanecross.errors import Misfit, TooMany
 from lanecross.fronts import (covers, front_at, front_read, front_text, is_behind, is_front, least_of, lowest, spread, through)
+from lanecross.lanes import Body, Lane, cuts_of, ground_of
+from lanecross.levels import Level, free_at
 from lanecross.numbers import distance, greatest, least, minus, number_text, over, plus, times
 from lanecross.pieces import Piece
 from lanecross.plays import hops_of, is_play, joined, parted, plain, straightened, where_at, wins_at
@@ -115,8 +120,19 @@ class TimesTest(unittest.TestCase):
                         (one_of(source, 9 * at + 10, 9 * at + 12), one_of(source, 9 * at + 10, 9 * at + 13))) for at in range(many)]
         return World(pieces, [(at, at + 1, None) for at in range(many - 1)], (10, 5, 0), [many - 1])
 
+    def check_papers(self, world, told):
+        self.assertTrue(self.check_short(lambda: is_closed(world, told)))
+        self.assertTrue(self.check_short(lambda: is_kept(world, safe_table(world)), 4))
+        paper = soonest(world)
+        self.assertTrue(self.check_short(lambda: shows_soonest(world, paper)))
+        station = world.start if not paper else paper.run[-1]
+        for answer, shows in ((run_to, shows_run), (escape, shows_escape), (lasting, shows_lasting)):
+            paper = answer(world, station)
+            self.assertTrue(self.check_short(lambda: shows(world, station, paper)))
+
     def check_world(self, world):
         told = self.check_short(lambda: table(world))
+        self.check_papers(world, told)
         self.assertEqual(self.check_short(lambda: table(world, 10 ** 60)), told)
         for answer in (lambda: fewest(world), lambda: soonest_by(world), lambda: safe_table(world), lambda: alive_table(world)):
             self.check_short(answer)
@@ -149,6 +165,75 @@ class TimesTest(unittest.TestCase):
                 self.check_short(lambda: answer(same, one))
             self.check_short(lambda: where_at(same, one, one[10][0]))
             self.assertEqual(self.check_short(lambda: joined(same, *parted(same, one, one[11][0]))), plain(same, one))
+
+    def body(self, source, end, is_still=False, lock=None):
+        begin, left = one_of(source, -10, end - 10), one_of(source, -20, 80)
+        other = left if is_still else one_of(source, -20, 80)
+        room = one_of(source, 1, 20)
+        piece = Piece(begin, number(frac(begin) + frac(one_of(source, 10, 60))), (left, other), [number(frac(place) + frac(room)) for place in (left, other)])
+        return Body(piece, lock)
+
+    def test_lanes(self):
+        source = random.Random(86)
+        for many in (12, 24):
+            bodies = [self.body(source, 60) for _ in range(many)]
+            for kind in ("road", "river"):
+                lane = Lane(kind, 90, bodies)
+                self.check_short(lambda: cuts_of(lane, 60))
+                self.check_short(lambda: ground_of(lane, 60), 2 if many == 12 else 10)
+
+    def drawn_level(self, source, lanes, bodies, keys, is_still):
+        while True:
+            rows = [[] for _ in range(lanes)]
+            for at in range(bodies):
+                rows[source.randrange(lanes)].append(self.body(source, 60, is_still, source.choice((None, *range(keys)))))
+            kinds = [source.choice(("road", "river")) for _ in range(lanes)]
+            window = Piece(0, 60, (0, 0), (90, 90))
+            lifts = [(at % lanes, (at + 2) % lanes, Piece(at, at + 40, (0, 0), (90, 90))) for at in range(6)]
+            try:
+                return Level([Lane(kind, 90, row) for kind, row in zip(kinds, rows)], 60, lifts, [(key, window) for key in range(keys)], (0, 45), [lanes - 1])
+            except Misfit:
+                continue
+
+    def test_levels(self):
+        source = random.Random(87)
+        made = refused = 0
+        for lanes, bodies, keys, is_still in ((5, 12, 0, False), (5, 12, 2, False), (5, 12, 2, True), (8, 24, 2, True), (3, 4, 2, False), (5, 5, 1, False)):
+            for _ in range(4):
+                level = self.check_short(lambda: self.drawn_level(source, lanes, bodies, keys, is_still), 5)
+                self.assertTrue(self.check_short(lambda: Level.read(str(level))) == level)
+                self.check_short(lambda: [free_at(level, lane, 30) for lane in range(lanes)])
+                try:
+                    world = self.check_short(lambda: world_of(level))
+                except TooMany:
+                    refused += 1
+                    continue
+                made += 1
+                self.check_short(lambda: (whence(level), piece_at(level, 30, 0, 45)))
+                self.check_short(lambda: (table(world), soonest(world), safe_table(world)), 4)
+        self.assertTrue(made > 5 and refused > 5, (made, refused))
+
+    def test_levels_with_great_numbers(self):
+        """Bodies that stand still, and numbers of a hundred digits, at all sizes."""
+        source = random.Random(88)
+        wide = number(Fraction(10 ** 100, source.randint(10 ** 99, 10 ** 100)))
+
+        def part(low, high):
+            return number(frac(wide) * Fraction(source.randint(low * 10 ** 97, high * 10 ** 97), 10 ** 100))
+        for many in (3, 24):
+            bodies = []
+            for _ in range(many):
+                (begin, end), (left, right) = [sorted((part(0, 500), part(501, 999)), key=frac) for _ in range(2)]
+                bodies.append(Body(Piece(begin, end, (left, left), (right, right)), source.choice((None, 0))))
+            level = self.check_short(lambda: Level([Lane("road", wide), *[Lane("road", wide, bodies[at::7]) for at in range(7)]], wide, [(0, 3, bodies[0].piece)],
+                                                   [(0, bodies[1].piece)], (0, part(1, 900)), [7]))
+            self.check_short(lambda: str(level))
+            try:
+                self.check_short(lambda: world_of(level))
+            except TooMany:
+                self.assertEqual(many, 24)
+        moving = [Body(Piece(part(0, 100), part(800, 999), [part(0, 300) for _ in range(2)], [part(301, 600) for _ in range(2)])) for _ in range(24)]
+        self.check_short(lambda: Level([Lane("road", wide), Lane("road", wide, moving)], wide, [], [], (0, part(1, 900)), [1]))
 
 
 if __name__ == "__main__":
