@@ -65,6 +65,12 @@ class LanguageTest(unittest.TestCase):
             own |= {target.id for part in tree.body if isinstance(part, ast.Assign) for target in part.targets}
             self.assertLessEqual({alias.name for alias in node.names}, own)
 
+    def test_imports_are_used(self):
+        for name, text in files():
+            tree = ast.parse(text)
+            bound = {alias.name for node in tree.body if isinstance(node, ast.ImportFrom) for alias in node.names}
+            self.assertLessEqual(bound, {node.id for node in ast.walk(tree) if isinstance(node, ast.Name)}, name)
+
     def test_nodes(self):
         for name, text in files():
             for node in ast.walk(ast.parse(text)):
