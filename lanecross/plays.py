@@ -16,13 +16,20 @@ def is_slow(one, other):
     return not (is_smaller(time, way) or is_smaller(time, negative(way)))
 
 
+def lets_through(world, link, spot):
+    """Whether a link lets a raw spot through: its other piece has it, and its window, if there is one."""
+    _, other, window = link
+    moment, place = spot
+    if not has_spot(world.pieces[other], moment, place):
+        return False
+    return window is None or has_spot(window, moment, place)
+
+
 def hop_number(world, piece, station):
     """The least number of a link from a piece that lets a station through; None if none does."""
-    moment, place = raw_spot(station)
-    if not has_spot(world.pieces[station[2]], moment, place):
-        return None
-    for at, (one, other, window) in enumerate(world.links):
-        if one == piece and other == station[2] and (window is None or has_spot(window, moment, place)):
+    spot = raw_spot(station)
+    for at, link in enumerate(world.links):
+        if link[0] == piece and link[1] == station[2] and lets_through(world, link, spot):
             return at
     return None
 
@@ -119,13 +126,19 @@ def is_idle(before, station, after):
     return before[2] == station[2] and is_straight(raw_spot(before), raw_spot(station), raw_spot(after))
 
 
+def with_station(play, station):
+    """A plain play with one station more, but without its last one if this could be left out then."""
+    if len(play) > 1 and is_idle(play[-2], play[-1], station):
+        play = play[:-1]
+    return (*play, station)
+
+
 def plain_stations(play):
     """A play without the stations that could be left out."""
-    kept = [play[0]]
-    for at in range(1, len(play)):
-        if at + 1 == len(play) or not is_idle(kept[-1], play[at], play[at + 1]):
-            kept.append(play[at])
-    return tuple(kept)
+    kept = ()
+    for station in play:
+        kept = with_station(kept, station)
+    return kept
 
 
 def plain(world, play):

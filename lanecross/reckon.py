@@ -73,3 +73,13 @@ def greater(one, other):
     if is_smaller(one, other):
         return other
     return one
+
+
+def floor(fraction):
+    """The greatest integer that is not above a raw fraction."""
+    return fraction[0] // fraction[1]
+
+
+def ceiling(fraction):
+    """The least integer that is not below a raw fraction."""
+    return -(-fraction[0] // fraction[1])

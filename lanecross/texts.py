@@ -58,12 +58,19 @@ class Reader:
             self.refuse_last()
         return found
 
-    def integer(self, bound, many):
-        """Takes an integer from bound to below many."""
+    def integer_from(self, bound):
+        """Takes an integer from bound on."""
         found = integer_in(self.ahead())
-        if found is None or found < bound or found >= many:
+        if found is None or found < bound:
             raise BadText(0, self.at)
         self.at += 1
+        return found
+
+    def integer(self, bound, many):
+        """Takes an integer from bound to below many."""
+        found = self.integer_from(bound)
+        if found >= many:
+            self.refuse_last()
         return found
 
     def close(self):

@@ -80,12 +80,21 @@ def backward(world, start, goals):
     return World(pieces, links, (minus(0, moment), place, piece), goals)
 
 
+def with_just(world, links):
+    """The world with just these links."""
+    return World(world.pieces, links, world.start, world.goals)
+
+
+def without_pieces(world, numbers):
+    """The world without the links that lead from some pieces or to them."""
+    return with_just(world, [link for link in world.links if link[0] not in numbers and link[1] not in numbers])
+
+
 def without(world, piece):
     """The world without the links that lead from a piece or to it."""
     check_world(world)
     check_number_of_piece(world, piece)
-    links = [link for link in world.links if link[0] != piece and link[1] != piece]
-    return World(world.pieces, links, world.start, world.goals)
+    return without_pieces(world, [piece])
 
 
 def with_more(world, pieces, links):

@@ -208,8 +208,45 @@ def is_free_at_first(lane, end, place):
     return at < far and at[0] <= place <= wide
 
 
+def commands_item(text):
+    return None if text == "-" else first_wrong(text, reading_commands)
+
+
+def reading_command(row, links):
+    """A command; links is how many there are, None for any number."""
+    word = row.word("run", "hop", "on")
+    if word == "hop":
+        row.index(10 ** 60 if links is None else links)
+    else:
+        value = row.number()
+        row.want(value >= 0 if word == "on" else -1 <= value <= 1)
+
+
+def reading_commands(row):
+    if row.rows[0] == "-":
+        raise Stop(1)
+    reading_command(row, None)
+    while row.at < len(row.rows):
+        row.word("/")
+        reading_command(row, None)
+
+
+def line_item(world):
+    """For a world the way to the first item of a line that cannot stand."""
+    def reading_line(row):
+        if row.rows[0] in ("run", "hop", "on"):
+            return reading_command(row, len(world.links))
+        word = row.word("where", "fate", "won", "play", "links", "soonest", "still", "front", "scene")
+        if word == "front":
+            row.index(len(world.pieces))
+        if word in ("front", "scene"):
+            row.number()
+    return lambda text: first_wrong(text, reading_line)
+
+
 MUCH = "1" + "0" * 60
-PUT_IN = ("", "-", "/", "x", "piece", "link", "start", "goals", "level", "road", "river", "body", "lock", "lift", "key", "0", "1", "2", "-1", "7", "99", "1/2", "-7/2", "4/2", "3/1",
+WORDS = ("run", "hop", "on", "where", "fate", "won", "play", "links", "soonest", "still", "front", "scene")
+PUT_IN = ("", "-", "/", "x", "3/2", "-3/2", "2/3", *WORDS, "piece", "link", "start", "goals", "level", "road", "river", "body", "lock", "lift", "key", "0", "1", "2", "-1", "7", "99", "1/2", "-7/2", "4/2", "3/1",
           "+1", "01", "-0", "1/0", "None", "PIECE", "9" * 60, MUCH, "-" + MUCH, "1/" + MUCH, "\u0661", "1\n", "\t", "1.0")
 
 

@@ -47,6 +47,8 @@ class LanguageTest(unittest.TestCase):
                     self.assertTrue(all(alias.asname is None and alias.name != "*" for alias in node.names))
                     self.check_defined(node)
                     found.add(node.module)
+                elif isinstance(node, ast.ExceptHandler):
+                    self.check_caught(node)
             before["lanecross." + name[:-3]] = found
         done = {"math"}
         while before:
@@ -55,6 +57,15 @@ class LanguageTest(unittest.TestCase):
             for name in ready:
                 done.add(name)
                 del before[name]
+
+    def check_caught(self, node):
+        """L19: own errors alone are caught, by name; what a handler names is only read by its attributes."""
+        names = [part.id for part in (node.type.elts if isinstance(node.type, ast.Tuple) else [node.type])]
+        self.assertFalse(set(names) & set(dir(builtins)))
+        read = [part.value for part in ast.walk(node) if isinstance(part, ast.Attribute)]
+        for part in ast.walk(node):
+            if isinstance(part, ast.Name) and part.id == node.name:
+                self.assertIn(part, read)
 
     def check_defined(self, node):
         """A name comes from the very file that defines it."""
@@ -122,16 +133,33 @@ class LanguageTest(unittest.TestCase):
             for node in ast.walk(tree):
                 if isinstance(node, ast.ClassDef):
                     own |= {part.name for part in node.body if isinstance(part, ast.FunctionDef)}
-                if isinstance(node, ast.Attribute) and isinstance(node.ctx, ast.Store):
-                    stored.add(node.attr)
-        self.assertFalse(own & stored)
+                if isinstance(node, ast.ClassDef):
+                    stored |= {part.attr for part in ast.walk(node) if isinstance(part, ast.Attribute) and isinstance(part.ctx, ast.Store)}
+        self.check_methods_and_attributes(trees, own & stored)
         self.assertFalse((own | stored) & {name for kind in (str, int, list, dict, set, bytes) for name in dir(kind)} - DUNDER)
         for tree in trees:
             for node in ast.walk(tree):
                 if isinstance(node, ast.Call) and isinstance(node.func, ast.Attribute):
                     self.assertIn(node.func.attr, METHODS | own | DUNDER)
+                if isinstance(node, ast.Attribute) and isinstance(node.ctx, ast.Store):
+                    self.assertIn(node.attr, stored)
                 if isinstance(node, ast.Attribute) and isinstance(node.ctx, ast.Load):
                     self.assertIn(node.attr, METHODS | own | stored | DUNDER)
+
+    def check_methods_and_attributes(self, trees, both):
+        """L18: a name may be a method of one class and an attribute of another one, if no method is read off a class."""
+        self.assertEqual(both, {"run"})
+        classes = {node.name: node for tree in trees for node in ast.walk(tree) if isinstance(node, ast.ClassDef)}
+        for node in classes.values():
+            family = [node, *[classes[base.id] for base in node.bases if base.id in classes]]
+            own = {part.name for one in family for part in one.body if isinstance(part, ast.FunctionDef)}
+            stored = {part.attr for one in family for part in ast.walk(one)
+                      if isinstance(part, ast.Attribute) and isinstance(part.ctx, ast.Store) and isinstance(part.value, ast.Name) and part.value.id == "self"}
+            self.assertFalse(own & stored, node.name)
+        for tree in trees:
+            for node in ast.walk(tree):
+                if isinstance(node, ast.Attribute) and isinstance(node.value, ast.Name):
+                    self.assertNotIn(node.value.id, classes)
 
     def test_texts_and_lengths(self):
         """L28: what stands behind each return of these methods, and a return stands last."""

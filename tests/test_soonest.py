@@ -45,21 +45,7 @@ def great_chain(source, many):
 class PapersTest(LaneCase):
     def test_parts(self):
         for made, word, names, kind in ((Soonest, "soonest", ("moment", "run", "table"), Paper), (Never, "never", ("table",), Denial)):
-            values = [[1, [2, (3, [4])]], None, {"a": [1]}][:len(names)]
-            kept = ((1, (2, (3, (4,)))), None, {"a": [1]})[:len(names)]
-            for paper in (made(*values), made(**dict(zip(names, values)))):
-                self.assertEqual((paper.word, paper.parts), (word, kept))
-                self.assertEqual(tuple(getattr(paper, name) for name in names), kept)
-                self.assertIsInstance(paper, kind)
-                self.assertIs(bool(paper), kind is Paper)
-                self.assertTrue(paper == made(*kept))
-                self.assertFalse(paper != made(*kept))
-                for other in (made(*values[:-1], 5), Paper(word, *values), Denial(word, *values), kept, word, None, 0, True):
-                    self.assertFalse(paper == other)
-                    self.assertFalse(other == paper)
-            self.assertEqual(issubclass(made, Denial), kind is Denial)
-            for odd in ODDITIES:
-                self.assertEqual(repr(made(*[odd] * len(names)).parts[-1]), repr(() if odd == [] else (1,) if odd == [1] else odd))
+            self.check_paper_class(made, word, names, kind)
         self.assertFalse(Never((1,)) == Soonest((1,), (1,), (1,)))
         self.assertTrue(Soonest(1, 2, 3) == Soonest(True, 2, 3))
 

@@ -1,7 +1,7 @@
 import random
 import unittest
 
-from grammar import MUCH, bent, front_item, level_item, piece_item, world_item
+from grammar import MUCH, front_item, level_item, piece_item, world_item
 from helper import ODDITIES, LaneCase
 from lanecross.errors import BadFront
 from lanecross.fronts import front_read, front_text, full_front, spread
@@ -27,17 +27,6 @@ LEVELS = (
 
 
 class TextsTest(LaneCase):
-    def check_bent(self, text, told, expected, as_text=str):
-        self.assertIsNone(expected(text))
-        self.assertEqual(as_text(told(text)), text)
-        for other in bent(text):
-            item = expected(other)
-            with self.subTest(text=other):
-                if item is None:
-                    self.assertEqual(as_text(told(other)), other)
-                else:
-                    self.check_text(item, told, other)
-
     def test_pieces(self):
         for text in PIECES:
             self.check_bent(text, Piece.read, piece_item)

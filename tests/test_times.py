@@ -5,17 +5,24 @@ import time
 import unittest
 from fractions import Fraction
 
+from lanecross.check_edits import shows_bar, shows_needed
 from lanecross.check_tables import is_closed, is_kept, shows_escape, shows_lasting, shows_run, shows_soonest
 from lanecross.compiled import piece_at, whence, world_of
-from lanecross.errors import Misfit, TooMany
-from lanecross.fronts import (covers, front_at, front_read, front_text, is_behind, is_front, least_of, lowest, spread, through)
+from lanecross.desk import Desk
+from lanecross.edits import delays, least_bar, needed, needed_links
+from lanecross.errors import Misfit, Nothing, TooMany
+from lanecross.films import commands_for, commands_of, commands_text, film, played
+from lanecross.fronts import (covers, front_at, front_read, front_text, full_front, is_behind, is_front, least_of, lowest, spread, through)
 from lanecross.lanes import Body, Lane, cuts_of, ground_of
+from lanecross.level_edits import in_the_way
 from lanecross.levels import Level, free_at
 from lanecross.numbers import distance, greatest, least, minus, number_text, over, plus, times
+from lanecross.pictures import chart, columns_of, scene
 from lanecross.pieces import Piece
 from lanecross.plays import hops_of, is_play, joined, parted, plain, straightened, where_at, wins_at
 from lanecross.safe import alive_table, escape, is_alive, is_safe, last_call, last_stand, lasting, safe_table
 from lanecross.soonest import run_to, soonest
+from lanecross.stories import are_alike, shows_story, story
 from lanecross.tables import fewest, soonest_by, table
 from lanecross.turned import backward, mirrored, moved, stretched, with_links, with_piece, without
 from lanecross.worlds import World, links_from
@@ -234,6 +241,93 @@ class TimesTest(unittest.TestCase):
                 self.assertEqual(many, 24)
         moving = [Body(Piece(part(0, 100), part(800, 999), [part(0, 300) for _ in range(2)], [part(301, 600) for _ in range(2)])) for _ in range(24)]
         self.check_short(lambda: Level([Lane("road", wide), Lane("road", wide, moving)], wide, [], [], (0, part(1, 900)), [1]))
+
+    def check_edits(self, world):
+        told = self.check_short(lambda: needed(world), 5)
+        self.assertTrue(self.check_short(lambda: shows_needed(world, told), 5))
+        self.check_short(lambda: delays(world), 5)
+        self.check_short(lambda: needed_links(world), 5)
+
+    def test_edits(self):
+        source = random.Random(84)
+        for many, links in ((2, 600), (4, 500), (10, 200), (20, 100), (44, 45)):
+            self.check_edits(self.wide_world(source, many, links))
+        for many in (16, 44):
+            self.check_edits(self.slow_chain(source, many))
+
+    def test_bars(self):
+        source = random.Random(90)
+        words = []
+        for many, links in ((8, 250), (7, 280), (8, 100), (4, 500)):
+            world = self.wide_world(source, many, links)
+            for kept in (world.links, [link for link in world.links if link[:2] != (0, many - 1)]):
+                other = World(world.pieces, kept, world.start, world.goals)
+                told = self.check_short(lambda: least_bar(other), 5)
+                self.assertTrue(self.check_short(lambda: shows_bar(other, told)))
+                words.append(told.word)
+        self.assertEqual(set(words), {"bar", "nobar"})
+
+    def test_bodies_in_the_way(self):
+        source = random.Random(91)
+        done = 0
+        for lanes, bodies, keys, is_still in ((5, 12, 0, False), (5, 12, 2, True), (5, 12, 2, False), (3, 4, 2, False)):
+            for _ in range(3):
+                level = self.drawn_level(source, lanes, bodies, keys, is_still)
+                try:
+                    self.check_short(lambda: in_the_way(level), 5)
+                    done += 1
+                except TooMany:
+                    continue
+        self.assertGreater(done, 4)
+
+    def great_world(self):
+        """All sizes at their bounds: sixty pieces, six hundred links, numbers of seven digits."""
+        low, high = -10 ** 6, 10 ** 6
+        pieces = [Piece(low, high, (low, low), (high, high))] * 60
+        return World(pieces, [(at % 60, (at + 1 + at // 60) % 60, Piece(low, high - at, (low, low), (high, high))) for at in range(600)], (0, 0, 0), [59])
+
+    def drawn_row(self, source, many, below):
+        def value(low, high):
+            under = source.randint(2, below)
+            return number(Fraction(source.randint(low * under, high * under), under))
+        return [command for at in range(many) for command in (("hop", at % 60), ("run", value(-1, 1)), ("on", value(0, 9)))]
+
+    def test_engines_and_desks(self):
+        source, world = random.Random(92), self.great_world()
+        # Numbers of two digits below the line at all sizes; of three for sixty commands.
+        for row in (self.drawn_row(source, 1000, 99), self.drawn_row(source, 20, 999)):
+            told = self.check_short(lambda: story(world, row))
+            self.assertTrue(self.check_short(lambda: shows_story(world, row, told)))
+            self.assertTrue(self.check_short(lambda: are_alike(world, row, row)))
+            self.assertEqual(self.check_short(lambda: commands_of(commands_text(row))), tuple(row))
+        play = played(world, row).play
+        self.assertEqual(played(world, self.check_short(lambda: commands_for(world, play))).play, play)
+        self.check_short(lambda: film(world, play, number(frac(play[-1][0]) / 999)))
+        desk = Desk(world)
+        self.check_short(lambda: [desk.told(commands_text([command])) for command in self.drawn_row(source, 67, 99)[:200]])
+        self.assertEqual(len(desk), 200)
+        self.check_short(lambda: self.undone_and_done_again(desk))
+        for line in ("where", "play", "links", "soonest", "still", "front 59 99999"):
+            self.check_short(lambda: desk.told(line), 4)
+        self.check_short(desk.twin)
+
+    def undone_and_done_again(self, desk):
+        lines = [desk.undo() for _ in range(len(desk))]
+        for _ in lines:
+            desk.redo()
+        self.assertRaises(Nothing, desk.redo)
+
+    def test_pictures(self):
+        source = random.Random(93)
+        world = self.wide_world(source, 44, 45)
+        self.check_short(lambda: (columns_of(world), scene(world, 100), scene(world, world.start[0], [world.start])))
+        wide = World([Piece(0, 9, (-10 ** 6, -10 ** 6), (10 ** 6, 10 ** 6))] * 9, [], (0, 0, 0), [])
+        self.assertEqual(len(self.check_short(lambda: scene(wide, 1))[0]), 2 * 10 ** 6 + 1)
+        for piece in (Piece(0, 999, (0, 300), (500, 999)), Piece(0, 2, (0, 0), (10 ** 5, 10 ** 5)), Piece(0, 10 ** 5, (0, 0), (2, 2))):
+            self.check_short(lambda: chart(piece, full_front(piece)))
+        piece, places = self.sixty(source)
+        front = spread(piece, [[(place, one_of(source, 300, 310))] for place in places])
+        self.check_short(lambda: chart(piece, front))
 
 
 if __name__ == "__main__":
