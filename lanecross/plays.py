@@ -16,20 +16,24 @@ def is_slow(one, other):
     return not (is_smaller(time, way) or is_smaller(time, negative(way)))
 
 
+def is_in_window(window, spot):
+    """Whether a window has a raw spot; one that is None has all."""
+    return window is None or has_spot(window, spot[0], spot[1])
+
+
 def lets_through(world, link, spot):
     """Whether a link lets a raw spot through: its other piece has it, and its window, if there is one."""
     _, other, window = link
-    moment, place = spot
-    if not has_spot(world.pieces[other], moment, place):
-        return False
-    return window is None or has_spot(window, moment, place)
+    return has_spot(world.pieces[other], spot[0], spot[1]) and is_in_window(window, spot)
 
 
 def hop_number(world, piece, station):
     """The least number of a link from a piece that lets a station through; None if none does."""
+    if not has_station(world, station):
+        return None
     spot = raw_spot(station)
-    for at, link in enumerate(world.links):
-        if link[0] == piece and link[1] == station[2] and lets_through(world, link, spot):
+    for at, (one, other, window) in enumerate(world.links):
+        if one == piece and other == station[2] and is_in_window(window, spot):
             return at
     return None
 

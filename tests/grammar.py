@@ -250,6 +250,19 @@ PUT_IN = ("", "-", "/", "x", "3/2", "-3/2", "2/3", *WORDS, "piece", "link", "sta
           "+1", "01", "-0", "1/0", "None", "PIECE", "9" * 60, MUCH, "-" + MUCH, "1/" + MUCH, "\u0661", "1\n", "\t", "1.0")
 
 
+SIGNS = ("", " ", "-", "/", "0", "1", "9", "r", "o", "+", ".", "A", "\n")
+
+
+def bent_signs(text):
+    """The text with each sign exchanged for others, left out or doubled, and with others put ahead of it."""
+    for at in range(len(text) + 1):
+        for sign in SIGNS:
+            yield text[:at] + sign + text[at + 1:]
+            yield text[:at] + sign + text[at:]
+        yield text[:at + 1] + text[at:]
+        yield text[:at] + text[at:at + 2][::-1] + text[at + 2:]
+
+
 def bent(text):
     """The text with each item exchanged for others, left out, doubled, exchanged with the next, and so on."""
     rows = text.split(" ")

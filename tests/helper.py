@@ -2,7 +2,7 @@
 
 import unittest
 
-from grammar import bent
+from grammar import bent, bent_signs
 from lanecross.errors import LaneError
 from lanecross.papers import Denial, Paper
 
@@ -60,10 +60,10 @@ class LaneCase(unittest.TestCase):
         self.check_raises(BadText, {"line": 0, "item": item}, told, text)
 
     def check_bent(self, text, told, expected, as_text=str):
-        """A text, and all that it is bent to: read back, or just that item cannot stand that is expected."""
+        """A text, and all that it is bent to, item by item and sign by sign: read back, or just that item cannot stand that is expected."""
         self.assertIsNone(expected(text))
         self.assertEqual(as_text(told(text)), text)
-        for other in bent(text):
+        for other in {*bent(text), *bent_signs(text)}:
             item = expected(other)
             with self.subTest(text=other):
                 if item is None:

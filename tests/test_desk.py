@@ -3,7 +3,7 @@ import unittest
 from fractions import Fraction
 
 from drawn import drawn_world
-from grammar import bent, line_item
+from grammar import bent, bent_signs, line_item
 from helper import ODDITIES, LaneCase
 from lanecross.desk import Desk
 from lanecross.errors import BadText, BadWorld, Nothing, Refused, TooMany
@@ -302,7 +302,7 @@ class LinesTest(LaneCase):
             for text in ("run 1", "run -1", "run 1/2", "on 0", "on 3/2", "hop 0", "where", "fate", "won", "play", "links", "soonest", "still", "front 0 7/2", "front 2 -1",
                          "scene 4", "scene -1/2"):
                 self.assertIsNone(expected(text))
-                for other in {text, *bent(text)}:
+                for other in {text, *bent(text), *bent_signs(text)}:
                     at, desk = expected(other), Desk(world)
                     with self.subTest(text=other):
                         if at is not None:

@@ -3,7 +3,7 @@ import unittest
 from fractions import Fraction
 from math import ceil, floor
 
-from drawn import as_lists, drawn_play, drawn_world, place_at, times_of
+from drawn import as_lists, drawn_play, drawn_world, place_at, station_of, times_of
 from helper import NO_NUMBERS, ODDITIES, LaneCase
 from lanecross.errors import BadFront, BadNumber, BadPiece, BadPlay, BadWorld, Misfit
 from lanecross.fronts import full_front, spot_front, spread
@@ -91,7 +91,7 @@ class SceneTest(LaneCase):
         seen = nowhere = edges = 0
         for _ in range(120):
             world = drawn_world(source, 4)
-            play = drawn_play(source, world, world.start)
+            play = drawn_play(source, world, source.choice((world.start, station_of(source, world))))
             for moment in times_of(play):
                 if place_at(play, moment) is None:
                     self.check_part(Misfit, "moment", scene, world, number(moment), play)
